@@ -1,0 +1,1 @@
+"""A secret in parts: who may open it, told by a text."""

@@ -1,0 +1,21 @@
+"""The refusals: each is answered by its number alone."""
+
+
+class Refusal(Exception):
+    def __init__(self, number):
+        self.number = number
+
+
+class OutOfRange(Refusal):
+    def __init__(self):
+        Refusal.__init__(self, -2)
+
+
+class OverLimit(Refusal):
+    def __init__(self):
+        Refusal.__init__(self, -5)
+
+
+class CannotStand(Refusal):
+    def __init__(self, place):
+        Refusal.__init__(self, -100 - place)
