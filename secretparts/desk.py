@@ -1,23 +1,46 @@
 """The calls: each takes its numbers and its text, and answers a list of whole numbers."""
 
 from secretparts.formulas import all_met
+from secretparts.people import least_of
 from secretparts.reading import book_of
-from secretparts.refusals import OutOfRange, Refusal
+from secretparts.refusals import OutOfRange, Refusal, TooMany
+from secretparts.telling import bytes_told
 
 
 def check(text):
-    return answered(text, lambda book: [len(book.lets)])
+    return answered(True, text, lambda book: [len(book.lets)])
 
 
 def allowed(form, who, text):
-    return answered(text, lambda book: [may(book, form, who)])
+    return answered(True, text, lambda book: [may(book, form, who)])
 
 
-def answered(text, ask):
+def least(form, most, text):
+    return answered(
+        most >= 0, text,
+        lambda book: no_more(most, least_of(book, formula_of(book, form))))
+
+
+def told(form, turned, most, text):
+    return answered(
+        most >= 0, text,
+        lambda book: no_more(most, bytes_told(book, formula_of(book, form), turned != 0)))
+
+
+# The book is asked only where the numbers handed in are in range: that comes ahead of a wrong text.
+def answered(in_range, text, ask):
     try:
+        if not in_range:
+            raise OutOfRange()
         return ask(book_of(text))
     except Refusal as refusal:
         return [refusal.number]
+
+
+def no_more(most, numbers):
+    if len(numbers) > most:
+        raise TooMany()
+    return [len(numbers)] + numbers
 
 
 def may(book, form, who):

@@ -6,6 +6,11 @@ class Refusal(Exception):
         self.number = number
 
 
+class TooMany(Refusal):
+    def __init__(self):
+        Refusal.__init__(self, -1)
+
+
 class OutOfRange(Refusal):
     def __init__(self):
         Refusal.__init__(self, -2)
