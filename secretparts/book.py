@@ -29,3 +29,9 @@ class Book:
     def add_let(self, name, formula):
         self.names[name] = formula
         self.lets.append(formula)
+
+    def is_person(self, formula):
+        return formula < len(self.people)
+
+    def node_of(self, formula):
+        return self.nodes[formula - len(self.people)]

@@ -1,10 +1,14 @@
 """The calls: each takes its numbers and its text, and answers a list of whole numbers."""
 
+from secretparts.agreeing import opened
+from secretparts.dealing import parts_dealt
 from secretparts.formulas import all_met
 from secretparts.people import least_of
 from secretparts.reading import book_of
 from secretparts.refusals import OutOfRange, Refusal, TooMany
 from secretparts.telling import bytes_told
+
+MOST_NUMBERS = 64
 
 
 def check(text):
@@ -27,6 +31,18 @@ def told(form, turned, most, text):
         lambda book: no_more(most, bytes_told(book, formula_of(book, form), turned != 0)))
 
 
+def deal(form, secret, text, chance):
+    return answered(
+        len(chance) <= MOST_NUMBERS, text,
+        lambda book: counted(parts_dealt(book, formula_of(book, form), secret, chance)))
+
+
+def open_by(form, who, text, parts):
+    return answered(
+        len(parts) <= MOST_NUMBERS, text,
+        lambda book: [opened_by(book, form, who, parts)])
+
+
 # The book is asked only where the numbers handed in are in range: that comes ahead of a wrong text.
 def answered(in_range, text, ask):
     try:
@@ -40,6 +56,10 @@ def answered(in_range, text, ask):
 def no_more(most, numbers):
     if len(numbers) > most:
         raise TooMany()
+    return counted(numbers)
+
+
+def counted(numbers):
     return [len(numbers)] + numbers
 
 
@@ -47,6 +67,12 @@ def may(book, form, who):
     formula = formula_of(book, form)
     keep_people(book, who)
     return all_met(book, who)[formula]
+
+
+def opened_by(book, form, who, parts):
+    formula = formula_of(book, form)
+    keep_people(book, who)
+    return opened(book, formula, who, parts)
 
 
 def formula_of(book, form):

@@ -16,6 +16,11 @@ class OutOfRange(Refusal):
         Refusal.__init__(self, -2)
 
 
+class WrongNumbers(Refusal):
+    def __init__(self):
+        Refusal.__init__(self, -3)
+
+
 class OverLimit(Refusal):
     def __init__(self):
         Refusal.__init__(self, -5)

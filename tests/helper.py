@@ -1,5 +1,6 @@
 """What all tests share: texts as lists of bytes, the ways to ask the desk, and a second reading of texts."""
 
+import itertools
 import re
 
 from secretparts.desk import allowed, check
@@ -141,6 +142,56 @@ def may(formula, who):
     if isinstance(formula, int):
         return bool(who & 1 << formula)
     return [may(inner, who) for inner in formula[1]].count(True) >= formula[0]
+
+
+def owners(formula):
+    return [formula] if isinstance(formula, int) else [one for inner in formula[1] for one in owners(inner)]
+
+
+def chances(formula):
+    return 0 if isinstance(formula, int) else formula[0] - 1 + sum(chances(inner) for inner in formula[1])
+
+
+def second_deal(formula, secret, chance, prime):
+    """Takes its numbers of chance off the list that is handed in."""
+    if isinstance(formula, int):
+        return [secret]
+    own = [chance.pop(0) for number in range(formula[0] - 1)]
+    parts = []
+    for x, inner in enumerate(formula[1], start=1):
+        value = secret + sum(number * x ** power for power, number in enumerate(own, start=1))
+        parts += second_deal(inner, value % prime, chance, prime)
+    return parts
+
+
+class Trial:
+    """Every secret of a let dealt with every row of chance."""
+
+    def __init__(self, formula, prime):
+        self.owners = owners(formula)
+        self.deals = [(secret, second_deal(formula, secret, list(row), prime)) for secret in range(prime)
+                      for row in itertools.product(range(prime), repeat=chances(formula))]
+        self.kept = {}
+
+    def those_of(self, who, parts):
+        return tuple(part for owner, part in zip(self.owners, parts) if who >> owner & 1)
+
+    def agreeing(self, who, own_parts):
+        """All the secrets that agree with these people's parts."""
+        if who not in self.kept:
+            self.kept[who] = {}
+            for secret, parts in self.deals:
+                self.kept[who].setdefault(self.those_of(who, parts), set()).add(secret)
+        return self.kept[who].get(tuple(own_parts), set())
+
+    def opened(self, who, own_parts):
+        secrets = self.agreeing(who, own_parts)
+        return -4 if not secrets else -6 if len(secrets) > 1 else min(secrets)
+
+
+def small_enough(formula, prime):
+    """Whether open_by and mend are asked of it."""
+    return prime ** (chances(formula) + 1) <= 4000
 
 
 def made_formula(chance, names, depth):
