@@ -3,7 +3,8 @@
 from secretparts.agreeing import opened
 from secretparts.dealing import parts_dealt
 from secretparts.formulas import all_met
-from secretparts.people import least_of
+from secretparts.mending import mended
+from secretparts.people import are_same, least_of
 from secretparts.reading import book_of
 from secretparts.refusals import OutOfRange, Refusal, TooMany
 from secretparts.telling import bytes_told
@@ -41,6 +42,18 @@ def open_by(form, who, text, parts):
     return answered(
         len(parts) <= MOST_NUMBERS, text,
         lambda book: [opened_by(book, form, who, parts)])
+
+
+def mend(form, text, parts):
+    return answered(
+        len(parts) <= MOST_NUMBERS, text,
+        lambda book: mended(book, formula_of(book, form), parts))
+
+
+def same(form, other, text):
+    return answered(
+        True, text,
+        lambda book: [are_same(book, formula_of(book, form), formula_of(book, other))])
 
 
 # The book is asked only where the numbers handed in are in range: that comes ahead of a wrong text.

@@ -17,3 +17,7 @@ def least_of(book, formula):
 def needs_all(may, who, people):
     among = [1 << person for person in range(people) if (who >> person) & 1 == 1]
     return all([may[who - one] == 0 for one in among])
+
+
+def are_same(book, formula, other):
+    return 1 if who_may(book, formula) == who_may(book, other) else 0

@@ -39,6 +39,8 @@ def set_apart(text, bracketed):
 
 
 def joined_by(sign, asked, inner):
-    if sign == "":
-        return str(asked) + " of (" + ", ".join(inner) + ")"
-    return (" " + sign + " ").join(inner)
+    if sign == "&":
+        return " & ".join(inner)
+    if sign == "|":
+        return " | ".join(inner)
+    return str(asked) + " of (" + ", ".join(inner) + ")"
