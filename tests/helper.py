@@ -213,3 +213,20 @@ def made_text(chance):
         text += "let %s = %s;\n" % (name, made_formula(chance, names, 3))
         names = names + [name]
     return text
+
+
+def made_lets(chance, turns):
+    """Each let of the right ones of so many made texts: the text, its second reading, the let's number."""
+    for turn in range(turns):
+        text = made_text(chance)
+        if checked(text)[0] >= 0:
+            read = SecondReading(text)
+            for form in range(len(read.lets)):
+                yield text, read, form
+
+
+def made_small_lets(chance, turns):
+    """Those of them of which open_by and mend are asked."""
+    for text, read, form in made_lets(chance, turns):
+        if small_enough(read.lets[form], read.prime):
+            yield text, read, form

@@ -4,7 +4,7 @@ import inspect
 import random
 import unittest
 
-from helper import (GREATEST, LEAST, OVER_TEXT, WRONG_TEXTS, SecondReading, Untouchable, bytes_of, chances, made_text,
+from helper import (GREATEST, LEAST, OVER_TEXT, WRONG_TEXTS, SecondReading, Untouchable, bytes_of, chances, made_lets,
                     owners, refused_at, second_deal, with_people)
 from secretparts import desk
 
@@ -88,21 +88,17 @@ class Parts(unittest.TestCase):
     def test_made_texts_against_a_second_deal(self):
         chance = random.Random(51)
         held = 0
-        for turn in range(1500):
-            text = made_text(chance)
-            if desk.check(bytes_of(text))[0] < 0:
-                continue
-            read = SecondReading(text)
-            for form, formula in enumerate(read.lets):
-                row = [chance.randrange(read.prime) for number in range(chances(formula))]
-                secret = chance.randrange(read.prime)
-                parts = second_deal(formula, secret, list(row), read.prime)
-                self.assertEqual(len(parts), len(owners(formula)))
-                self.assertEqual(dealt(form, secret, text, row), [len(parts)] + parts, text)
-                self.assertEqual(dealt(form, secret, text, row + [0]), WRONG, text)
-                if row:
-                    self.assertEqual(dealt(form, secret, text, row[1:]), WRONG, text)
-                held += 1
+        for text, read, form in made_lets(chance, 1500):
+            formula = read.lets[form]
+            row = [chance.randrange(read.prime) for number in range(chances(formula))]
+            secret = chance.randrange(read.prime)
+            parts = second_deal(formula, secret, list(row), read.prime)
+            self.assertEqual(len(parts), len(owners(formula)))
+            self.assertEqual(dealt(form, secret, text, row), [len(parts)] + parts, text)
+            self.assertEqual(dealt(form, secret, text, row + [0]), WRONG, text)
+            if row:
+                self.assertEqual(dealt(form, secret, text, row[1:]), WRONG, text)
+            held += 1
         self.assertGreater(held, 1000)
 
 

@@ -57,6 +57,19 @@ class Files(unittest.TestCase):
                         self.assertRegex(defined.read_text(), r"(?m)^((def|class) %s\b|%s =)" % (alias.name, alias.name))
 
 
+    def test_no_two_files_draw_from_one_another(self):
+        drawn = {}
+        for name, tree in trees():
+            modules = [node.module for node in tree.body if isinstance(node, ast.ImportFrom)]
+            drawn[name[:-3]] = [module.split(".")[1] for module in modules]
+        self.assertEqual(drawn["__init__"], [])
+        while drawn:
+            free = [name for name in drawn if not any(other in drawn for other in drawn[name])]
+            self.assertNotEqual(free, [], drawn)
+            for name in free:
+                drawn.pop(name)
+
+
 class Forms(unittest.TestCase):
     def test_statements_and_expressions(self):
         for name, tree in trees():
@@ -110,6 +123,26 @@ class Names(unittest.TestCase):
             for bound in self.bound(tree) - {"__init__"}:
                 self.assertRegex(bound, r"^[A-Za-z][A-Za-z0-9_]*$", name)
                 self.assertNotIn(bound, own, name)
+
+    def test_no_local_is_called_like_an_import_or_a_class(self):
+        for name, tree in trees():
+            taken = {alias.name for node in tree.body if isinstance(node, ast.ImportFrom) for alias in node.names}
+            taken |= {node.name for node in tree.body if isinstance(node, ast.ClassDef)}
+            locals_of = {node.arg for node in ast.walk(tree) if isinstance(node, ast.arg)}
+            locals_of |= {node.id for node in ast.walk(tree) if isinstance(node, ast.Name) and isinstance(node.ctx, ast.Store)}
+            self.assertEqual(taken & locals_of, set(), name)
+
+    def test_each_import_is_read(self):
+        for name, tree in trees():
+            drawn = {alias.name for node in tree.body if isinstance(node, ast.ImportFrom) for alias in node.names}
+            self.assertLessEqual(drawn, {node.id for node in ast.walk(tree) if isinstance(node, ast.Name)}, name)
+
+    def test_each_name_is_bound_once_at_the_top(self):
+        for name, tree in trees():
+            bound = [node.name for node in tree.body if isinstance(node, (ast.FunctionDef, ast.ClassDef))]
+            bound += [node.targets[0].id for node in tree.body if isinstance(node, ast.Assign)]
+            bound += [alias.name for node in tree.body if isinstance(node, ast.ImportFrom) for alias in node.names]
+            self.assertEqual(len(bound), len(set(bound)), name)
 
     def test_what_is_read_is_bound_or_listed(self):
         for name, tree in trees():

@@ -4,7 +4,7 @@ import inspect
 import random
 import unittest
 
-from helper import (GREATEST, LEAST, OVER_TEXT, WRONG_TEXTS, SecondReading, Untouchable, bytes_of, made_text, may,
+from helper import (GREATEST, LEAST, OVER_TEXT, WRONG_TEXTS, SecondReading, Untouchable, bytes_of, made_lets, may,
                     refused_at, who_may, with_people)
 from secretparts import desk
 
@@ -90,25 +90,19 @@ class WhoCannotBeSpared(unittest.TestCase):
 
 
 class AgainstEveryNumber(unittest.TestCase):
-    def hold(self, text):
-        read = SecondReading(text)
-        for form, formula in enumerate(read.lets):
-            found = least_of(form, text)
-            self.assertEqual(found[0], len(found) - 1, text)
-            self.assertEqual(found[1:], sorted(set(found[1:])), text)
-            self.assertEqual(found[1:], tried(formula, read.people), text)
-            self.assertEqual(least_of(form, text, found[0]), found)
-            self.assertEqual(least_of(form, text, found[0] - 1), [-1])
+    def hold(self, text, read, form):
+        found = least_of(form, text)
+        self.assertEqual(found[0], len(found) - 1, text)
+        self.assertEqual(found[1:], sorted(set(found[1:])), text)
+        self.assertEqual(found[1:], tried(read.lets[form], read.people), text)
+        self.assertEqual(least_of(form, text, found[0]), found)
+        self.assertEqual(least_of(form, text, found[0] - 1), [-1])
 
     def test_made_texts(self):
-        chance = random.Random(31)
-        held = 0
-        for turn in range(700):
-            text = made_text(chance)
-            if desk.check(bytes_of(text))[0] >= 0:
-                self.hold(text)
-                held += 1
-        self.assertGreater(held, 300)
+        lets = list(made_lets(random.Random(31), 700))
+        self.assertGreater(len(lets), 300)
+        for text, read, form in lets:
+            self.hold(text, read, form)
 
     def test_each_may_and_none_can_be_spared_as_allowed_answers(self):
         text = THREE + "let x = 2 of (a, b & c, b | a, 1 of (c));"
@@ -121,8 +115,9 @@ class AgainstEveryNumber(unittest.TestCase):
         names = ["p%d" % number for number in range(10)]
         for turn in range(12):
             groups = ["%d of (%s)" % (chance.randrange(1, 5), ", ".join(chance.sample(names, 4))) for group in range(5)]
-            self.hold("field 11; who %s; let x = %d of (%s);"
-                      % (with_people(10), chance.randrange(1, 6), ", ".join(groups)))
+            text = "field 11; who %s; let x = %d of (%s);" % (
+                with_people(10), chance.randrange(1, 6), ", ".join(groups))
+            self.hold(text, SecondReading(text), 0)
 
 
 class Most(unittest.TestCase):

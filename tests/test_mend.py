@@ -7,7 +7,7 @@ import time
 import unittest
 
 from helper import (GREATEST, LEAST, OVER_TEXT, WRONG_TEXTS, SecondReading, Trial, Untouchable, bytes_of, chances,
-                    made_text, owners, refused_at, small_enough)
+                    made_small_lets, owners, refused_at, small_enough)
 from secretparts import desk
 
 THREE = "field 7; who a, b, c; "
@@ -88,7 +88,6 @@ class WhoIsLeftOut(unittest.TestCase):
     def test_everybody_who_has_a_place(self):
         self.assertEqual(of_let("a | a", [3, 4]), [-6, 1])
         self.assertEqual(of_let("c | c", [3, 4]), [-6, 4])
-        self.assertEqual(of_let("a | a", [3, 4], "field 3; who a; "), WRONG)
         self.assertEqual(of_let("a | a", [1, 2], "field 3; who a; "), [-6, 1])
         self.assertEqual(of_let("(a | a) & (b | b)", [1, 2, 3, 4]), [-6, 3])
         self.assertEqual(of_let("(a | a) & (b | b) & (c | c)", [1, 2, 3, 4, 5, 6]), [-6, 7])
@@ -107,6 +106,12 @@ class WhoIsLeftOut(unittest.TestCase):
         self.assertEqual(of_let("2 of (a, a, b, b)", [1, 6, 4, 3]), [0, 1])
         self.assertEqual(of_let("a & b | a & c", [3, 4, 5, 1]), [2, 0])
         self.assertEqual(of_let("a & b | a & c", [3, 4, 5, 2]), [-6, 1])
+
+    def test_in_the_least_field(self):
+        for secret in (0, 1):
+            for formula in ("b", "1 of (b)", "1 of (1 of (b))"):
+                self.assertEqual(of_let(formula, [secret], "field 2; who a, b; "), [secret, 0])
+        self.assertEqual(of_let("1 of (b)", [2], "field 2; who a, b; "), WRONG)
 
     def test_lets_that_name_lets(self):
         text = THREE + "let x = a & b; let y = x | c; let z = y | x;"
@@ -141,15 +146,9 @@ class AgainstATrial(unittest.TestCase):
     def test_made_texts(self):
         chance = random.Random(71)
         answers, held = [], 0
-        for turn in range(260):
-            text = made_text(chance)
-            if desk.check(bytes_of(text))[0] < 0:
-                continue
-            read = SecondReading(text)
-            for form, formula in enumerate(read.lets):
-                if small_enough(formula, read.prime):
-                    answers += self.hold(chance, text, form, read)
-                    held += 1
+        for text, read, form in made_small_lets(chance, 260):
+            answers += self.hold(chance, text, form, read)
+            held += 1
         self.assertGreater(held, 120)
         self.assertLessEqual({0, 1, 2, 3, 4, 5, 6, 8}, {answer[1] for answer in answers})
         self.assertLessEqual({-6, 0, 1}, {answer[0] for answer in answers})

@@ -7,7 +7,7 @@ import time
 import unittest
 
 from helper import (GREATEST, LEAST, OVER_TEXT, WRONG_TEXTS, SecondReading, Trial, Untouchable, asked, bytes_of,
-                    chances, made_text, owners, refused_at, small_enough, with_people)
+                    chances, made_small_lets, owners, refused_at, small_enough, with_people)
 from secretparts import desk
 
 THREE = "field 7; who a, b, c; "
@@ -68,8 +68,16 @@ class WhatWasDealt(unittest.TestCase):
         for formula, secret, chance, parts in DEALS:
             self.assertEqual(of_let(formula, 0, []), MANY)
             self.assertEqual(of_let(formula, 7, parts), [secret])
-        self.assertEqual(of_let("a", 0, [], "field 2; who a; "), MANY)
-        self.assertEqual(of_let("a", 1, [1], "field 2; who a; "), [1])
+
+    def test_in_the_least_field(self):
+        head = "field 2; who a, b; "
+        for formula in ("a", "1 of (a)", "1 of (1 of (a))"):
+            self.assertEqual(of_let(formula, 0, [], head), MANY)
+            self.assertEqual(of_let(formula, 2, [], head), MANY)
+            self.assertEqual(of_let(formula, 1, [2], head), WRONG)
+            for secret in (0, 1):
+                self.assertEqual(of_let(formula, 1, [secret], head), [secret])
+                self.assertEqual(of_let(formula, 3, [secret], head), [secret])
 
     def test_people_who_have_no_place(self):
         self.assertEqual(of_let("b", 5, []), MANY)
@@ -129,8 +137,8 @@ class AgainstATrial(unittest.TestCase):
             rows.append(row[:place] + (chance.randrange(prime),) + row[place + 1:])
         return rows + [tuple(chance.randrange(prime) for place in range(count)) for row in range(12)]
 
-    def hold(self, chance, text, form, formula, read):
-        trial = Trial(formula, read.prime)
+    def hold(self, chance, text, form, read):
+        trial = Trial(read.lets[form], read.prime)
         answers = set()
         for who in range(2 ** read.people):
             for row in self.rows(chance, trial, who, read.prime):
@@ -142,15 +150,9 @@ class AgainstATrial(unittest.TestCase):
     def test_made_texts(self):
         chance = random.Random(61)
         answers, held = set(), 0
-        for turn in range(320):
-            text = made_text(chance)
-            if desk.check(bytes_of(text))[0] < 0:
-                continue
-            read = SecondReading(text)
-            for form, formula in enumerate(read.lets):
-                if small_enough(formula, read.prime):
-                    answers |= self.hold(chance, text, form, formula, read)
-                    held += 1
+        for text, read, form in made_small_lets(chance, 320):
+            answers |= self.hold(chance, text, form, read)
+            held += 1
         self.assertEqual(answers, {0, -4, -6})
         self.assertGreater(held, 150)
 
@@ -168,7 +170,7 @@ class AgainstATrial(unittest.TestCase):
                 text = "field %d; who a, b, c; let x = %s;" % (prime, formula)
                 read = SecondReading(text)
                 self.assertTrue(small_enough(read.lets[0], prime), formula)
-                self.hold(chance, text, 0, read.lets[0], read)
+                self.hold(chance, text, 0, read)
 
 
 class Refused(unittest.TestCase):

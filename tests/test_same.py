@@ -4,8 +4,8 @@ import inspect
 import random
 import unittest
 
-from helper import (GREATEST, LEAST, OVER_TEXT, WRONG_TEXTS, SecondReading, Untouchable, bytes_of, made_text, may,
-                    refused_at, with_people)
+from helper import (GREATEST, LEAST, OVER_TEXT, WRONG_TEXTS, Untouchable, bytes_of, made_lets, may, refused_at,
+                    with_people)
 from secretparts import desk
 
 FOUR = "field 7; who a, b, c, d; "
@@ -107,18 +107,13 @@ class TwoLets(unittest.TestCase):
         self.assertEqual(same(2, 3, text), [0])
 
     def test_made_texts_against_every_number(self):
-        chance = random.Random(81)
         answers = []
-        for turn in range(900):
-            text = made_text(chance)
-            if desk.check(bytes_of(text))[0] < 0:
-                continue
-            read = SecondReading(text)
+        for text, read, form in made_lets(random.Random(81), 900):
             tables = [[may(formula, who) for who in range(2 ** read.people)] for formula in read.lets]
-            for form, first in enumerate(tables):
-                for other, second in enumerate(tables):
-                    self.assertEqual(same(form, other, text), [int(first == second)], text)
-                    answers.append((form == other, first == second))
+            for other in range(len(tables)):
+                alike = tables[form] == tables[other]
+                self.assertEqual(same(form, other, text), [int(alike)], text)
+                answers.append((form == other, alike))
         for seen in ((True, True), (False, True), (False, False)):
             self.assertGreater(answers.count(seen), 100)
 

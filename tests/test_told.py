@@ -4,7 +4,7 @@ import inspect
 import random
 import unittest
 
-from helper import (GREATEST, LEAST, OVER_TEXT, WRONG_TEXTS, SecondReading, Untouchable, bytes_of, made_text,
+from helper import (GREATEST, LEAST, OVER_TEXT, WRONG_TEXTS, SecondReading, Untouchable, bytes_of, made_lets,
                     refused_at, with_people)
 from secretparts import desk
 
@@ -149,19 +149,19 @@ class Tellings(unittest.TestCase):
 
 
 class AgainstASecondTelling(unittest.TestCase):
-    def hold(self, text, names):
-        read = SecondReading(text)
+    def hold(self, text, read, form):
+        formula = read.lets[form]
+        names = ["a", "b", "c", "d"][:read.people]
         head = "field 251; who %s; let x = " % ", ".join(names)
-        for form, formula in enumerate(read.lets):
-            told = text_told(form, 0, text)
-            self.assertEqual(told, second_telling(formula, names), text)
-            turned = text_told(form, 1, text)
-            self.assertEqual(turned, second_telling(turned_round(formula), names), text)
-            self.assertEqual(SecondReading(head + told + ";").lets[0], formula, text)
-            self.assertEqual(SecondReading(head + turned + ";").lets[0], turned_round(formula), text)
-            self.assertEqual(text_told(0, 0, head + told + ";"), told, text)
-            self.assertEqual(text_told(0, 1, head + turned + ";"), told, text)
-            self.keeps_all_others_from_it(head, told, turned, len(names))
+        told = text_told(form, 0, text)
+        self.assertEqual(told, second_telling(formula, names), text)
+        turned = text_told(form, 1, text)
+        self.assertEqual(turned, second_telling(turned_round(formula), names), text)
+        self.assertEqual(SecondReading(head + told + ";").lets[0], formula, text)
+        self.assertEqual(SecondReading(head + turned + ";").lets[0], turned_round(formula), text)
+        self.assertEqual(text_told(0, 0, head + told + ";"), told, text)
+        self.assertEqual(text_told(0, 1, head + turned + ";"), told, text)
+        self.keeps_all_others_from_it(head, told, turned, len(names))
 
     def keeps_all_others_from_it(self, head, told, turned, people):
         everybody = 2 ** people - 1
@@ -171,18 +171,15 @@ class AgainstASecondTelling(unittest.TestCase):
             self.assertEqual(may_keep, 1 - others_may, (told, turned, who))
 
     def test_made_texts(self):
-        chance = random.Random(41)
-        held = 0
-        for turn in range(700):
-            text = made_text(chance)
-            if desk.check(bytes_of(text))[0] >= 0:
-                self.hold(text, ["a", "b", "c", "d"][:SecondReading(text).people])
-                held += 1
-        self.assertGreater(held, 300)
+        lets = list(made_lets(random.Random(41), 700))
+        self.assertGreater(len(lets), 300)
+        for text, read, form in lets:
+            self.hold(text, read, form)
 
     def test_the_written_ones(self):
         for written, told, other in TELLINGS:
-            self.hold(FOUR + "let x = " + written + ";", ["a", "b", "c", "d"])
+            text = FOUR + "let x = " + written + ";"
+            self.hold(text, SecondReading(text), 0)
 
 
 class Most(unittest.TestCase):

@@ -11,8 +11,8 @@ import sys
 import unittest
 from pathlib import Path
 
-from helper import (GREATEST, LEAST, OVER_TEXT, WRONG_TEXTS, SecondReading, Untouchable, bytes_of, chances, made_text,
-                    owners, refused_at)
+from helper import (GREATEST, LEAST, OVER_TEXT, WRONG_TEXTS, Untouchable, bytes_of, chances, made_lets, made_text, owners,
+                    refused_at)
 from secretparts import desk
 
 ROOT = Path(__file__).resolve().parent.parent
@@ -214,15 +214,10 @@ class TogetherOnOneText(unittest.TestCase):
     def test_made_texts(self):
         chance = random.Random(94)
         held = 0
-        for turn in range(500):
-            text = made_text(chance)
-            if desk.check(bytes_of(text))[0] < 0:
-                continue
-            read = SecondReading(text)
-            for form in range(len(read.lets)):
-                self.hold(chance, text, form, read)
-                self.hold_told(text, form, read)
-                held += 1
+        for text, read, form in made_lets(chance, 500):
+            self.hold(chance, text, form, read)
+            self.hold_told(text, form, read)
+            held += 1
         self.assertGreater(held, 300)
 
 
